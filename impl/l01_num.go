@@ -7,8 +7,8 @@ import (
 
 const MaxVarint = 562949953421311
 
-// Seven bytes are the most that always fit a positive int, whether they hold
-// 8 bits each (fixed width) or 7 bits each (MaxVarint is 2^49 - 1).
+// One limit serves both formats: seven bytes are the greatest width, and
+// MaxVarint, 2^49 - 1, fills seven groups of seven bits.
 const maxNumberBytes = 7
 
 const maxParsedDigits = 9
