@@ -197,27 +197,28 @@ func TestParseRowOfEveryFieldText(t *testing.T) {
 	}
 }
 
-func TestParseRowOfEveryChangedByte(t *testing.T) {
-	for _, c := range validRowTexts {
-		for i := 0; i <= len(c.text); i++ {
-			before, after := c.text[:i], c.text[i:]
-			for b := range 256 {
-				other := string([]byte{byte(b)})
-				checkParseRow(t, before+other+after)
-				if after != "" {
-					checkParseRow(t, before+other+after[1:])
-				}
-			}
+// eachChangedText calls f with s, each of its beginnings and ends, and s with one byte inserted, replaced or left out.
+func eachChangedText(s string, f func(string)) {
+	for i := 0; i <= len(s); i++ {
+		before, after := s[:i], s[i:]
+		f(before)
+		f(after)
+		for b := range 256 {
+			other := string([]byte{byte(b)})
+			f(before + other + after)
 			if after != "" {
-				checkParseRow(t, before+after[1:])
-			}
-			if i < len(c.text) {
-				checkParseRow(t, before)
-			}
-			if i > 0 {
-				checkParseRow(t, after)
+				f(before + other + after[1:])
 			}
 		}
+		if after != "" {
+			f(before + after[1:])
+		}
+	}
+}
+
+func TestParseRowOfEveryChangedByte(t *testing.T) {
+	for _, c := range validRowTexts {
+		eachChangedText(c.text, func(s string) { checkParseRow(t, s) })
 	}
 }
 
