@@ -166,13 +166,25 @@ func readRow(s string) (impl.Row, bool) {
 	return impl.Row{ID: n[0], Group: n[1], Y: n[2], X: n[3], Null: m[4] == "null"}, true
 }
 
-func checkParseRow(t *testing.T, s string) bool {
+// checkParse compares a parser with a reader that knows the format in a way of its own, and tells whether the text is one.
+func checkParse[T any](t *testing.T, s string, same func(T, T) bool, read func(string) (T, bool), parse func(string) (T, bool), format func(T) string) bool {
 	t.Helper()
-	want, valid := readRow(s)
-	if r, ok := impl.ParseRow(s); r != want || ok != valid {
-		t.Fatalf("ParseRow(%q) = %v, %v, want %v, %v", s, r, ok, want, valid)
+	want, valid := read(s)
+	x, ok := parse(s)
+	if !same(x, want) || ok != valid {
+		t.Fatalf("%q is parsed as %v, %v, want %v, %v", s, x, ok, want, valid)
+	}
+	if ok && format(x) != s {
+		t.Fatalf("%q is parsed as %v, which has the text %q", s, x, format(x))
 	}
 	return valid
+}
+
+func equal[T comparable](a T, b T) bool { return a == b }
+
+func checkParseRow(t *testing.T, s string) bool {
+	t.Helper()
+	return checkParse(t, s, equal[impl.Row], readRow, impl.ParseRow, impl.FormatRow)
 }
 
 func TestParseRowOfEveryShortString(t *testing.T) {

@@ -435,15 +435,7 @@ func readBlock(s string) (impl.Block, bool) {
 
 func checkParseBlock(t *testing.T, s string) bool {
 	t.Helper()
-	want, valid := readBlock(s)
-	b, ok := impl.ParseBlock(s)
-	if !sameBlock(b, want) || ok != valid {
-		t.Fatalf("ParseBlock(%q) = %v, %v, want %v, %v", s, b, ok, want, valid)
-	}
-	if ok && impl.FormatBlock(b) != s {
-		t.Fatalf("FormatBlock of ParseBlock(%q) is %q", s, impl.FormatBlock(b))
-	}
-	return valid
+	return checkParse(t, s, sameBlock, readBlock, impl.ParseBlock, impl.FormatBlock)
 }
 
 func TestParseBlockOfEveryShortString(t *testing.T) {
@@ -470,19 +462,24 @@ func TestParseBlockOfEveryID(t *testing.T) {
 	}
 }
 
-func TestParseBlockOfEverySequenceOfWords(t *testing.T) {
-	words := []string{"#1", "#20", "1", "", "1:0,0,5", "2:3,8,null", "10:0,0,-9", "3:4,0,5"}
+// eachSequence calls f with every sequence of one to n parts.
+func eachSequence(parts []string, separator string, n int, f func(string)) {
 	texts := []string{""}
-	for range 4 {
+	for range n {
 		var longer []string
 		for _, s := range texts {
-			for _, w := range words {
-				longer = append(longer, s+w+" ")
-				checkParseBlock(t, s+w)
+			for _, p := range parts {
+				f(s + p)
+				longer = append(longer, s+p+separator)
 			}
 		}
 		texts = longer
 	}
+}
+
+func TestParseBlockOfEverySequenceOfWords(t *testing.T) {
+	parts := []string{"#1", "#20", "1", "", "1:0,0,5", "2:3,8,null", "10:0,0,-9", "3:4,0,5"}
+	eachSequence(parts, " ", 4, func(s string) { checkParseBlock(t, s) })
 }
 
 func TestParseBlockOfEveryNumberOfRows(t *testing.T) {

@@ -554,15 +554,7 @@ func readTable(s string) (impl.Table, bool) {
 
 func checkParseTable(t *testing.T, s string) bool {
 	t.Helper()
-	want, valid := readTable(s)
-	x, ok := impl.ParseTable(s)
-	if !sameTable(x, want) || ok != valid {
-		t.Fatalf("ParseTable(%q) = %v, %v, want %v, %v", s, x, ok, want, valid)
-	}
-	if ok && impl.FormatTable(x) != s {
-		t.Fatalf("FormatTable of ParseTable(%q) is %q", s, impl.FormatTable(x))
-	}
-	return valid
+	return checkParse(t, s, sameTable, readTable, impl.ParseTable, impl.FormatTable)
 }
 
 func TestParseTableOfEveryShortString(t *testing.T) {
@@ -591,17 +583,7 @@ func TestParseTableOfEveryVersion(t *testing.T) {
 
 func TestParseTableOfEverySequenceOfParts(t *testing.T) {
 	parts := []string{"v0", "v99", "", "#1", "#2 1:0,0,5", "#3 2:0,0,null 10:1,1,1", "#10 1:0,0,6", "#20 2:0,0,0", "1:0,0,5", "#0"}
-	texts := []string{""}
-	for range 4 {
-		var longer []string
-		for _, s := range texts {
-			for _, p := range parts {
-				longer = append(longer, s+p+";")
-				checkParseTable(t, s+p)
-			}
-		}
-		texts = longer
-	}
+	eachSequence(parts, ";", 4, func(s string) { checkParseTable(t, s) })
 }
 
 func TestParseTableOfEveryNumberOfBlocks(t *testing.T) {
